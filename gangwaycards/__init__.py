@@ -1,0 +1,1 @@
+"""Cards at the gangway: who leaves a ship, and who comes back."""

@@ -1,0 +1,8 @@
+"""How much there may be of each thing."""
+
+MOST_PERSONS = 24
+MOST_GATES = 3
+MOST_CARDS = 100000
+MOST_PASSAGES = 100000
+LAST_MINUTE = 100000
+LONGEST_STEP = 1440
