@@ -9,8 +9,8 @@ from gangwaycards.limits import LAST_MINUTE, LONGEST_STEP, MOST_CARDS, MOST_GATE
 from gangwaycards.refusals import MAY_NOT, NO_MORE_OF_THEM, NO_ROOM_ABOARD, NONE_THERE
 from gangwaycards.refusals import NOT_AS_THINGS_ARE, SO_ALREADY, TOO_LATE, WRONG_NUMBER
 from gangwaycards.ship import ABOARD, ASHORE, GONE, Gate, Person
-from gangwaycards.ship import as_bits, find_gate, find_holder, find_person, has_child, has_passed
-from gangwaycards.ship import is_full, may_go_ashore, overdue_visitors
+from gangwaycards.ship import as_bits, children_of, count_open_gates, find_gate, find_holder, find_person
+from gangwaycards.ship import has_passed, is_full, may_go_ashore, overdue_visitors
 
 WENT_OUT = 0
 CAME_IN = 1
@@ -22,10 +22,6 @@ def give_card(ship):
     card = ship.cards_given
     ship.cards_given = card + 1
     return card
-
-
-def count_open_gates(ship):
-    return len([gate for gate in ship.gates if gate.opened])
 
 
 def is_no_coming_minute(ship, t):
@@ -146,7 +142,7 @@ def leave_for_good(ship, p):
         return [NONE_THERE]
     if person.place == ABOARD:
         return [NOT_AS_THINGS_ARE]
-    if has_child(ship, person):
+    if len(children_of(ship, person)) > 0:
         return [MAY_NOT]
     person.place = GONE
     return [ship.minute - person.since]

@@ -1,6 +1,7 @@
 """The numbers by which a call is refused."""
 
 NONE_THERE = -2
+NOBODY_MISSING = -6
 NOT_AS_THINGS_ARE = -16
 SO_ALREADY = -17
 WRONG_NUMBER = -22

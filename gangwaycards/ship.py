@@ -41,6 +41,31 @@ class Ship:
         self.cards_shown_in_vain = 0
 
 
+def copied_gate(gate):
+    copied = Gate()
+    copied.opened = gate.opened
+    copied.went_out = gate.went_out
+    copied.came_in = gate.came_in
+    return copied
+
+
+def copied_person(person):
+    copied = Person(person.number, person.card, person.since, person.guardian, person.off_by)
+    copied.place = person.place
+    return copied
+
+
+def copied_ship(ship):
+    """Give a ship that is as this one, and shares nothing with it that can change."""
+    copied = Ship(ship.most, ship.sail)
+    copied.minute = ship.minute
+    copied.gates = [copied_gate(gate) for gate in ship.gates]
+    copied.persons = [copied_person(person) for person in ship.persons]
+    copied.cards_given = ship.cards_given
+    copied.cards_shown_in_vain = ship.cards_shown_in_vain
+    return copied
+
+
 def find_gate(ship, g):
     """Give the gate of this number, or None."""
     if g >= len(ship.gates):
@@ -66,8 +91,24 @@ def find_holder(ship, card):
     return None
 
 
+def count_open_gates(ship):
+    return len([gate for gate in ship.gates if gate.opened])
+
+
+def persons_in(ship, place):
+    return [person for person in ship.persons if person.place == place]
+
+
 def persons_aboard(ship):
-    return [person for person in ship.persons if person.place == ABOARD]
+    return persons_in(ship, ABOARD)
+
+
+def visitors_aboard(ship):
+    return [person for person in persons_aboard(ship) if person.off_by is not None]
+
+
+def missing_persons(ship):
+    return [person for person in persons_in(ship, ASHORE) if person.off_by is None]
 
 
 def is_full(ship):
@@ -79,26 +120,26 @@ def has_passed(ship, t):
     return t < ship.minute
 
 
+def is_guardian_ashore(ship, child):
+    """Tell whether the one the child must be with is ashore; one who is gone isn't."""
+    return ship.persons[child.guardian].place == ASHORE
+
+
 def may_go_ashore(ship, person):
     if person.place != ABOARD:
         return False
-    if person.guardian is None:
-        return True
-    return ship.persons[person.guardian].place == ASHORE
+    return person.guardian is None or is_guardian_ashore(ship, person)
 
 
-def has_child(ship, person):
-    """Tell whether a child that isn't gone must be with this person."""
-    for other in ship.persons:
-        if other.guardian == person.number and other.place != GONE:
-            return True
-    return False
+def children_of(ship, person):
+    """Give the children that must be with this person and aren't gone."""
+    children = [other for other in ship.persons if other.guardian == person.number]
+    return [child for child in children if child.place != GONE]
 
 
 def overdue_visitors(ship):
     """Give the visitors aboard who should have been off before this minute."""
-    visitors = [person for person in persons_aboard(ship) if person.off_by is not None]
-    return [visitor for visitor in visitors if has_passed(ship, visitor.off_by)]
+    return [visitor for visitor in visitors_aboard(ship) if has_passed(ship, visitor.off_by)]
 
 
 def as_bits(persons):

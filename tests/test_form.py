@@ -17,6 +17,7 @@ EXPRESSIONS = (
     ast.IfExp, ast.Call, ast.Attribute, ast.Subscript, ast.Slice, ast.ListComp,
 )
 BUILT_IN = {"len", "max"}
+METHODS = {"append", "extend", "pop"}
 WORDS_NOT_USED = re.compile(
     r"\b(type|typing|enum|Enum|Flag|Generic|Protocol|ABC|namedtuple|register|elements|open|input)\b"
     r"|dataclass|overload|contextmanager")
@@ -67,6 +68,30 @@ class FormTest(unittest.TestCase):
                     self.assertEqual(node.level, 0)
                     self.assertRegex(node.module, r"^gangwaycards\.[a-z]+$")
                     self.assertEqual([name.name for name in node.names if name.name == "*" or name.asname], [])
+
+    def test_names_are_drawn_from_the_file_that_defines_them(self):
+        drawn = {}
+        for path in sources():
+            drawn[path.stem] = []
+            for node in ast.parse(path.read_text(encoding="ascii")).body:
+                if isinstance(node, ast.ImportFrom):
+                    stem = node.module.split(".")[1]
+                    drawn[path.stem].append(stem)
+                    code = (FOLDER / f"{stem}.py").read_text(encoding="ascii")
+                    for name in node.names:
+                        self.assertRegex(code, rf"(?m)^((def|class) {name.name}\b|{name.name} = )")
+        # What draws from nothing that is left is taken away; in a ring nothing ever could be.
+        while drawn:
+            free = [stem for stem in drawn if not set(drawn[stem]) & set(drawn)]
+            self.assertNotEqual(free, [], drawn)
+            for stem in free:
+                del drawn[stem]
+
+    def test_methods_of_python_s_own_values(self):
+        for path in sources():
+            for node in ast.walk(ast.parse(path.read_text(encoding="ascii"))):
+                if isinstance(node, ast.Call) and isinstance(node.func, ast.Attribute):
+                    self.assertIn(node.func.attr, METHODS, path.name)
 
     def test_functions_are_short_and_plain(self):
         for path in sources():
